@@ -1,0 +1,1 @@
+"""A shape that's flooded: which holes are there, and from when to when."""
