@@ -10,12 +10,24 @@ NO_END = -1
 NOT_A_SIMPLEX = -1
 TOO_MANY_SIMPLICES = -2
 NOT_HEIGHTS = -1
+SECOND_IS_LOWER = -1
+NOT_THERE = -3
+NONE_THAT_ENDS = -6
+
+NOTHING_FILLS_IT = 0
+FILLED_BY = 1
+FILLS_WHAT_IS_BORNE_BY = 2
 
 SHAPE = 0
 HEIGHT = 1
 ROW_OF = 2
 PAIRS = 3
 BARS = 4
+AT = 5
+LASTING = 6
+LONGEST = 7
+SWAMPED = 8
+PARTNER = 9
 
 
 def is_simplex(corners):
@@ -48,6 +60,17 @@ def with_all_faces(simplices):
         for face in faces_of(simplex):
             found[face] = True
     return sorted(list(found), key=lambda face: (len(face), face))
+
+
+# Those of the simplices that are no face of another one of them, as they stand.
+def no_faces_of_others(simplices):
+    faces_of_others = {}
+    for simplex in simplices:
+        for face in faces_of(simplex):
+            # A simplex is a face of itself: that alone doesn't leave it out.
+            if face != simplex:
+                faces_of_others[face] = True
+    return [simplex for simplex in simplices if simplex not in faces_of_others]
 
 
 def comes_at(simplex, heights):
@@ -119,6 +142,30 @@ def bars_in(row, heights):
     return found
 
 
+def is_bar_there(bar, height):
+    return bar[1] <= height and (bar[2] == NO_END or height < bar[2])
+
+
+def length_of(bar):
+    return bar[2] - bar[1]
+
+
+# What a simplex of the row does, and the corners of the one that does the other half of it.
+def partner_in(row, simplex):
+    place = places_in(row)[simplex]
+    for pair in pairs_in(row):
+        if pair[0] == place:
+            return [FILLED_BY] + list(row[pair[1]])
+        if pair[1] == place:
+            return [FILLS_WHAT_IS_BORNE_BY] + list(row[pair[0]])
+    return [NOTHING_FILLS_IT]
+
+
+def told_by_dimension(bars):
+    dimensions = [bar[0] for bar in bars]
+    return [dimensions.count(dimension) for dimension in range(MOST_CORNERS_OF_A_SIMPLEX)]
+
+
 def told_simplices(simplices):
     told = [len(simplices)]
     for simplex in simplices:
@@ -171,6 +218,35 @@ class FloodedShape:
     def bars(self, dimension):
         return told_twos([(bar[1], bar[2]) for bar in self.current_bars() if bar[0] == dimension])
 
+    def at(self, height):
+        return told_by_dimension([bar for bar in self.current_bars() if is_bar_there(bar, height)])
+
+    def lasting(self, height, other):
+        if other < height:
+            return [SECOND_IS_LOWER]
+        there = [bar for bar in self.current_bars() if is_bar_there(bar, height)]
+        return told_by_dimension([bar for bar in there if is_bar_there(bar, other)])
+
+    def longest(self, dimension):
+        ending = [bar for bar in self.current_bars() if bar[0] == dimension and bar[2] != NO_END]
+        if len(ending) == 0:
+            return [NONE_THAT_ENDS]
+        # Of as long ones max takes the first, and they stand as in bars.
+        bar = max(ending, key=length_of)
+        return [length_of(bar), bar[1], bar[2]]
+
+    def swamped(self, height):
+        there = [simplex for simplex in self.simplices if comes_at(simplex, self.heights) <= height]
+        return told_simplices(no_faces_of_others(there))
+
+    def partner(self, corners):
+        if not is_simplex(corners):
+            return [NOT_A_SIMPLEX]
+        simplex = tuple(sorted(corners))
+        if simplex not in self.simplices:
+            return [NOT_THERE]
+        return partner_in(self.current_row(), simplex)
+
 
 def answer_of(flooded, call, numbers, lists):
     if call == SHAPE:
@@ -183,7 +259,17 @@ def answer_of(flooded, call, numbers, lists):
         return flooded.pairs()
     if call == BARS:
         return flooded.bars(numbers[0])
-    raise NotImplementedError(f"there is no call {call}")
+    if call == AT:
+        return flooded.at(numbers[0])
+    if call == LASTING:
+        return flooded.lasting(numbers[0], numbers[1])
+    if call == LONGEST:
+        return flooded.longest(numbers[0])
+    if call == SWAMPED:
+        return flooded.swamped(numbers[0])
+    if call == PARTNER:
+        return flooded.partner(numbers)
+    raise ValueError(f"there is no call {call}")
 
 
 # The numbers behind the count that stands at start.

@@ -31,6 +31,26 @@ def bars(dimension):
     return [4, 1, dimension, 0]
 
 
+def at(height):
+    return [5, 1, height, 0]
+
+
+def lasting(height, other):
+    return [6, 2, height, other, 0]
+
+
+def longest(dimension):
+    return [7, 1, dimension, 0]
+
+
+def swamped(height):
+    return [8, 1, height, 0]
+
+
+def partner(*corners):
+    return [9, len(corners)] + list(corners) + [0]
+
+
 def apart(answered):
     """The answers, a list each."""
     found = []

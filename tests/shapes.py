@@ -10,6 +10,25 @@ JUST_61 = EDGES + TRIANGLES[:6]
 
 RING = [(0, 1), (1, 2), (0, 2)]
 HOLLOW = list(combinations(range(4), 3))
+# All tetrahedra of five corners: together they bear a hole of dimension 3, and nothing can fill it.
+HOLLOW_OF_TETRAHEDRA = list(combinations(range(5), 4))
+
+WRONG_SIMPLICES = [
+    (),
+    (0, 1, 2, 3, 4),
+    (0, 1, 2, 3, 4, 5),
+    (3, 3),
+    (0, 1, 0),
+    (0, 1, 2, 2),
+    (5, 5, 5, 5, 5),
+    (-1,),
+    (10,),
+    (0, -1),
+    (9, 10),
+    (0, 1, 2, 10),
+    (-4294967295,),
+    (4294967295,),
+]
 
 # Each is told by simplices on the corners 0 to 3, so that all their small heights can be gone through.
 SMALL_SHAPES = [
@@ -38,6 +57,7 @@ LARGER_SHAPES = [
     (JUST_60, (10, 20, 30, 40, 50, 60, 70, 80, 90, 100)),
     (JUST_60, (9, 1, 8, 2, 7, 3, 6, 4, 5, 5)),
     (JUST_60, (0, 0, 0, 0, 0, 0, 0, 0, 0, 0)),
+    (HOLLOW_OF_TETRAHEDRA + [(5, 6), (6, 7), (5, 7)], (3, 1, 4, 1, 5, 9, 2, 6, 5, 3)),
 ]
 
 

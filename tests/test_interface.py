@@ -5,12 +5,18 @@ import sys
 import unittest
 
 from floodedshape.holes import answers
-from tests.calls import apart, ask, bars, height, heights_of, last, pairs, row_of, shape
+from tests.calls import (
+    apart, ask, at, bars, height, heights_of, last, lasting, longest, pairs, partner, row_of, shape, simplices_in,
+    swamped,
+)
 from tests.shapes import JUST_60, JUST_61, RING
 
+# Every call, in mixed order; each refusal among them.
 ALL_CALLS = (
-    shape((2, 0, 1), (3,)) + height(5, 2, 7, 1, 0, 0, 0, 0, 0, 0) + row_of() + pairs() + bars(0) + bars(1)
-    + shape((0, 0)) + height(1, 2) + shape(*JUST_61) + bars(4294967295)
+    partner(0) + at(0) + shape((2, 0, 1), (3,), (3, 4), (4, 5)) + swamped(0) + height(5, 2, 7, 1, 9, 3, 0, 0, 0, 0)
+    + longest(0) + row_of() + lasting(3, 6) + pairs() + bars(0) + partner(1, 2, 0) + bars(1) + at(6)
+    + shape((0, 0)) + partner(3, 3) + height(1, 2) + lasting(6, 3) + shape(*JUST_61) + longest(4294967295)
+    + bars(4294967295) + swamped(5) + partner(3) + partner(9, 3) + at(4294967295) + longest(1)
 )
 
 
@@ -24,6 +30,19 @@ class TheList(unittest.TestCase):
             4, 1, 0, 0,
             0, 0, 1, 0,
             1, 0, 0,
+            5, 1, 5, 0,
+            6, 2, 4, 6, 0,
+            6, 2, 6, 4, 0,
+            7, 1, 0, 0,
+            8, 1, 6, 0,
+            9, 2, 1, 0, 0,
+            9, 1, 1, 0,
+            9, 1, 0, 0,
+            9, 0, 0,
+            9, 1, 7, 0,
+            0, 0, 2, 2, 0, 1, 2, 1, 2,
+            1, 10, 1, 8, 3, 0, 0, 0, 0, 0, 0, 0, 0,
+            7, 1, 0, 0,
         ]
         expected = [
             1, 4,
@@ -33,6 +52,19 @@ class TheList(unittest.TestCase):
             5, 2, 4, -1, 5, -1,
             1, -1,
             1, -1,
+            4, 2, 0, 0, 0,
+            4, 1, 0, 0, 0,
+            1, -1,
+            1, -6,
+            6, 2, 1, 2, 2, 0, 1,
+            2, 2, 1,
+            3, 1, 0, 1,
+            1, 0,
+            1, -1,
+            1, -3,
+            1, 5,
+            1, 2,
+            3, 5, 3, 8,
         ]
         self.assertEqual(answers(calls), expected)
 
@@ -42,15 +74,37 @@ class TheList(unittest.TestCase):
         self.assertEqual(answers([4, 1, 0, 0]), [1, 0])
         self.assertEqual(answers([0, 0, 0]), [1, 0])
         self.assertEqual(answers([1] + [10] + [0] * 10 + [0]), [1, 0])
+        self.assertEqual(answers([5, 1, 0, 0]), [4, 0, 0, 0, 0])
+        self.assertEqual(answers([6, 2, 0, 0, 0]), [4, 0, 0, 0, 0])
+        self.assertEqual(answers([7, 1, 0, 0]), [1, -6])
+        self.assertEqual(answers([8, 1, 0, 0]), [1, 0])
+        self.assertEqual(answers([9, 1, 0, 0]), [1, -3])
 
     def test_a_refusal_is_alone(self):
         self.assertEqual(answers([0, 0, 1, 1, 10]), [1, -1])
         self.assertEqual(answers([1, 0, 0]), [1, -1])
         self.assertEqual(answers(shape(*JUST_61)), [1, -2])
+        self.assertEqual(answers([6, 2, 1, 0, 0]), [1, -1])
+        self.assertEqual(answers([9, 6, 0, 1, 2, 3, 4, 5, 0]), [1, -1])
+
+    def test_all_ten_calls_in_mixed_order(self):
+        found = apart(answers(list(ALL_CALLS)))
+        row = [(3,), (1,), (5,), (0,), (0, 1), (2,), (0, 2), (1, 2), (0, 1, 2), (4,), (3, 4), (4, 5)]
+        self.assertEqual(simplices_in(found.pop(6)), row)
+        expected = [
+            [-3], [0, 0, 0, 0], [12], [3, 2, 3, 4, 2, 4, 5, 3, 0, 1, 2], [3],
+            [6, 3, 9], [3, 0, 0, 0], [5, 3, 4, 5, 6, 7, 8, 9, 10, 2, 11], [3, 1, -1, 2, -1, 3, 9], [2, 1, 2], [0],
+            [3, 0, 0, 0],
+            [-1], [-1], [-1], [-1], [-2], [-6],
+            [0], [3, 1, 3, 1, 5, 2, 0, 1], [0], [-3], [2, 0, 0, 0], [-6],
+        ]
+        self.assertEqual(found, expected)
 
     def test_forty_calls(self):
         rounds = [shape(*RING), heights_of(3, 1, 2), row_of(), pairs(), bars(0), bars(1), shape((4, 4)), height(1)]
         self.assertEqual(ask(*rounds * 5), ask(*rounds) * 5)
+        others = [at(2), lasting(2, 3), lasting(3, 2), longest(0), swamped(2), partner(2, 0), partner(4), partner(11)]
+        self.assertEqual(ask(*(rounds[:2] + others) * 4), ask(*rounds[:2], *others) * 4)
 
     def test_a_list_about_as_long_as_may_be(self):
         six_corners = shape(*[(0, 1, 2, 3, 4, 5)] * 60)
@@ -110,7 +164,8 @@ class Kinds(unittest.TestCase):
         limit = sys.getrecursionlimit()
         sys.setrecursionlimit(len(inspect.stack()) + 30)
         try:
-            found = answers(shape(*JUST_60) + height(*range(10)) + pairs() * 38)
+            asked = pairs() * 30 + at(5) + lasting(3, 7) + longest(1) + swamped(8) + partner(7, 8) + bars(1) * 3
+            found = answers(shape(*JUST_60) + height(*range(10)) + asked)
         finally:
             sys.setrecursionlimit(limit)
         self.assertEqual(len(apart(found)), 40)

@@ -1,24 +1,7 @@
 import unittest
 
 from tests.calls import ask, bars, heights_of, last, pairs, row_of, shape, simplices_in
-from tests.shapes import EDGES, JUST_60, JUST_61
-
-WRONG_SIMPLICES = [
-    (),
-    (0, 1, 2, 3, 4),
-    (0, 1, 2, 3, 4, 5),
-    (3, 3),
-    (0, 1, 0),
-    (0, 1, 2, 2),
-    (5, 5, 5, 5, 5),
-    (-1,),
-    (10,),
-    (0, -1),
-    (9, 10),
-    (0, 1, 2, 10),
-    (-4294967295,),
-    (4294967295,),
-]
+from tests.shapes import EDGES, JUST_60, JUST_61, WRONG_SIMPLICES
 
 
 class Ordinary(unittest.TestCase):
